@@ -311,3 +311,14 @@ func TestZ2RulesAreOnlyRead(t *testing.T) {
 		t.Errorf("Uses is %v, when another answer was changed", two)
 	}
 }
+
+func TestNumbers(t *testing.T) {
+	if got := check.Numbers(nil); len(got) != 0 {
+		t.Errorf("Numbers(nil) is %v", got)
+	}
+	// Of rules with which something is wrong, too: the first one that has a name.
+	l := []api.Rule{rule("b", never()), rule("a", never()), rule("", api.Expr{}), rule("b", called("c")), rule("a", never())}
+	if got, want := check.Numbers(l), map[string]int{"b": 0, "a": 1, "": 2}; !reflect.DeepEqual(got, want) {
+		t.Errorf("Numbers(%v) is %v, not %v", l, got, want)
+	}
+}
