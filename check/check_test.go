@@ -1,6 +1,7 @@
 package check_test
 
 import (
+	"fmt"
 	"math"
 	"math/rand"
 	"reflect"
@@ -17,14 +18,14 @@ import (
 func uses(t *testing.T, l []api.Rule, want ...[]int) {
 	t.Helper()
 	if got := check.Wrong(l); got != (api.Fault{}) {
-		t.Errorf("Wrong(%.300v) is %v", l, got)
+		t.Errorf("Wrong(%.300s) is %v", fmt.Sprint(l), got)
 	}
 	if len(want) != len(l) {
 		t.Fatalf("%d rules are asked for, not %d", len(want), len(l))
 	}
 	for i := range l {
 		if got := check.Uses(l, i); !slices.Equal(got, want[i]) {
-			t.Errorf("Uses(%.300v, %d) is %v, not %v", l, i, got, want[i])
+			t.Errorf("Uses(%.300s, %d) is %v, not %v", fmt.Sprint(l), i, got, want[i])
 		}
 	}
 	usesNone(t, l, -1, len(l), len(l)+1, -len(l), math.MinInt, math.MaxInt)
@@ -34,7 +35,7 @@ func usesNone(t *testing.T, l []api.Rule, rules ...int) {
 	t.Helper()
 	for _, i := range rules {
 		if got := check.Uses(l, i); len(got) != 0 {
-			t.Errorf("Uses(%.300v, %d) is %v", l, i, got)
+			t.Errorf("Uses(%.300s, %d) is %v", fmt.Sprint(l), i, got)
 		}
 	}
 }
@@ -43,7 +44,7 @@ func usesNone(t *testing.T, l []api.Rule, rules ...int) {
 func wrong(t *testing.T, l []api.Rule, err api.Errno, at int) {
 	t.Helper()
 	if got, want := check.Wrong(l), (api.Fault{Err: err, At: at}); got != want {
-		t.Errorf("Wrong(%.300v) is %v, not %v", l, got, want)
+		t.Errorf("Wrong(%.300s) is %v, not %v", fmt.Sprint(l), got, want)
 	}
 	usesNone(t, l, -1, len(l), math.MaxInt)
 	for i := range l {

@@ -1,6 +1,7 @@
 package mean_test
 
 import (
+	"fmt"
 	"math"
 	"math/rand"
 	"reflect"
@@ -38,11 +39,11 @@ func means(t *testing.T, l []api.Rule, day int, want ...spans) {
 	t.Helper()
 	got, fault := mean.All(l, day)
 	if fault != (api.Fault{}) || len(got) != len(want) {
-		t.Fatalf("All(%.300v, %d) is %d masks, %v, not %d", l, day, len(got), fault, len(want))
+		t.Fatalf("All(%.300s, %d) is %d masks, %v, not %d", fmt.Sprint(l), day, len(got), fault, len(want))
 	}
 	for i := range want {
 		if got[i] != bits(want[i]) {
-			t.Errorf("All(%.300v, %d) has %x of rule %d, not %v", l, day, got[i], i, want[i])
+			t.Errorf("All(%.300s, %d) has %x of rule %d, not %v", fmt.Sprint(l), day, got[i], i, want[i])
 		}
 	}
 }
@@ -57,7 +58,7 @@ func wrong(t *testing.T, l []api.Rule, day int, err api.Errno, at int) {
 	t.Helper()
 	got, fault := mean.All(l, day)
 	if want := (api.Fault{Err: err, At: at}); fault != want || len(got) != 0 {
-		t.Errorf("All(%.300v, %d) is %d masks, %v, not %v", l, day, len(got), fault, want)
+		t.Errorf("All(%.300s, %d) is %d masks, %v, not %v", fmt.Sprint(l), day, len(got), fault, want)
 	}
 }
 

@@ -1,6 +1,7 @@
 package parse_test
 
 import (
+	"fmt"
 	"math"
 	"strings"
 	"testing"
@@ -14,10 +15,10 @@ func wrong(t *testing.T, l []api.Rule, err api.Errno, at int) {
 	t.Helper()
 	want := api.Fault{Err: err, At: at}
 	if got := parse.Wrong(l); got != want {
-		t.Errorf("Wrong(%.300v) is %v, not %v", l, got, want)
+		t.Errorf("Wrong(%.300s) is %v, not %v", fmt.Sprint(l), got, want)
 	}
 	if text, got := parse.Print(l); got != want || text != "" {
-		t.Errorf("Print(%.300v) is %q, %v, not %v", l, text, got, want)
+		t.Errorf("Print(%.300s) is %q, %v, not %v", fmt.Sprint(l), text, got, want)
 	}
 }
 
@@ -32,7 +33,7 @@ func wrongOne(t *testing.T, e api.Expr, err api.Errno) {
 func right(t *testing.T, l []api.Rule) {
 	t.Helper()
 	if got := parse.Wrong(l); got != (api.Fault{}) {
-		t.Errorf("Wrong(%.300v) is %v", l, got)
+		t.Errorf("Wrong(%.300s) is %v", fmt.Sprint(l), got)
 	}
 }
 
